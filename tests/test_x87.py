@@ -1,4 +1,4 @@
-"""Lines of calls with the answers that a real x87 unit gave for them."""
+"""Lines of calls with the answers of a C program that did the sums with a processor's x87 unit."""
 
 import pathlib
 import unittest

@@ -3,6 +3,7 @@
 The model is made from the document alone and draws nothing from the package but `answers`.
 """
 
+import math
 import struct
 from fractions import Fraction
 
@@ -55,7 +56,54 @@ def text(m):
     return [10, m]
 
 
-MINUTE_CALLS = (height, double, mm, floor, decimal, text)
+def span(m, n):
+    """The document calls it range."""
+    return [11, m, n]
+
+
+def row(m, n):
+    return [12, m, n]
+
+
+def turns(m, n, most):
+    return [13, m, n, most]
+
+
+def lock(area, sluice, sill, inner):
+    return [14, area, sluice, sill, inner]
+
+
+def work(i, what):
+    return [15, i, what]
+
+
+def time(m):
+    return [16, m]
+
+
+def run(n):
+    return [17, n]
+
+
+def may(i, draught):
+    return [18, i, draught]
+
+
+def look(i):
+    return [19, i]
+
+
+def when(i, draught, n):
+    return [20, i, draught, n]
+
+
+def plain_lock(area=1.0, sluice=1.0, sill=0.0, inner=0.0):
+    """A lock of Python floats that singles can hold."""
+    return lock(single(area), single(sluice), single(sill), single(inner))
+
+
+MINUTE_CALLS = (height, double, mm, floor, decimal, text,
+                lambda m: span(m, 2), lambda m: row(m, 2), lambda m: turns(m, 3, 1), time)
 
 
 def ask(*calls):
@@ -77,6 +125,11 @@ def last(*calls):
 def single(value):
     """The bits of the single nearest to a Python float."""
     return struct.unpack("<I", struct.pack("<f", value))[0]
+
+
+def value_of(stored):
+    """The Python float that a single's bits tell."""
+    return struct.unpack("<f", struct.pack("<I", stored))[0]
 
 
 def digits(value):
@@ -179,8 +232,7 @@ def cosine_and_sine(p):
 
 
 def number_of_single(stored):
-    value = struct.unpack("<f", struct.pack("<I", stored))[0]
-    return (stored >> 31 == 1, Fraction(value))
+    return (stored >> 31 == 1, Fraction(value_of(stored)))
 
 
 def tenths(mean, waves, surged, m):
@@ -207,3 +259,67 @@ def unit_bits(x):
 
 def double_bits(x):
     return bits(turned(x, DOUBLE), DOUBLE)
+
+
+def single_bits(x):
+    return bits(turned(x, SINGLE), SINGLE)
+
+
+# Singles are Python floats here: a double's sum, product, quotient or root of singles, rounded to a single, is the
+# single's own, as a double has more than twice a single's places.
+
+def rounded(value):
+    return struct.unpack("<f", struct.pack("<f", value))[0]
+
+
+def sea_level(mean, waves, surged, m):
+    return value_of(single_bits(metres(mean, waves, surged, m)))
+
+
+def pair_of(one, m):
+    """A wave's pair and turn at a row's first minute."""
+    high, factor, phase, speed = one
+    at = cosine_and_sine((phase + speed * m) % 2 ** 64)
+    first = [value_of(single_bits(by(times(number(high), part), number(10000)))) for part in at]
+    return first, [value_of(single_bits(part)) for part in cosine_and_sine(speed)]
+
+
+def row_height(mean, waves, pairs):
+    t = value_of(single_bits(by(number(mean), number(10000))))
+    products = [rounded(value_of(one[1]) * pair[0][0]) for one, pair in zip(waves, pairs)]
+    products += [0.0] * (-len(products) % 4)
+    for i in range(0, len(products), 4):
+        p = products[i:i + 4]
+        t = rounded(t + rounded(rounded(p[0] + p[1]) + rounded(p[2] + p[3])))
+    return t
+
+
+def row_bits(mean, waves, m, n):
+    pairs = [pair_of(one, m) for one in waves]
+    told = []
+    for k in range(n):
+        told.append(single(row_height(mean, waves, pairs)))
+        for pair in pairs:
+            (a, b), (g, h) = pair
+            pair[0][:] = [rounded(rounded(a * g) - rounded(b * h)), rounded(rounded(b * g) + rounded(a * h))]
+    return told
+
+
+def flowed(level, water, sluice, area):
+    """A chamber's level after a minute with a sluice up."""
+    d = rounded(water - level)
+    a = abs(d)
+    s = rounded(rounded(sluice * rounded(math.sqrt(a))) / area)
+    if not s < a:
+        return water
+    return rounded(level - s) if math.copysign(1.0, d) < 0 else rounded(level + s)
+
+
+def four_by_four(four):
+    """Calls for a sea whose heights from minute 0 on are these four whole metres again and again, just so."""
+    middle = Fraction(sum(four), 4)
+    x = [one - middle for one in four]
+    waves = [((x[0] - x[2]) / 2, 0, 2 ** 62), ((x[1] - x[3]) / 2, 3 * 2 ** 62, 2 ** 62),
+             ((x[0] - x[1] + x[2] - x[3]) / 4, 0, 2 ** 63)]
+    return [begin(int(middle * 10000))] + [wave(int(high * 10000), single(1.0), phase, speed)
+                                                  for high, phase, speed in waves]

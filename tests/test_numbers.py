@@ -85,6 +85,51 @@ class Numbers(unittest.TestCase):
         self.assertEqual(kinds.stored_bits(kinds.DOUBLE, (0, 2 ** 64 - 1, -1022 - 64)), 0x0010000000000000)
         self.assertEqual(kinds.stored_bits(kinds.UNIT, (0, 2 ** 65 - 1, -16447)), 0x00018000000000000000)
 
+    def test_roots(self):
+        source = random.Random(11)
+        for kind, plain in KINDS:
+            for i in range(400):
+                x = some_number(source, kind, (-90, 30))
+                told = model(kinds.turned(kind, kinds.root(kind, (0, x[1], x[2]))))
+                exact = abs(model(x)[1])
+                # The square is between those of the two halves beside it; a half itself can't be a root.
+                step = helper.Fraction(2) ** (kinds.root(kind, (0, x[1], x[2]))[2] if x[1] else 0)
+                self.assertEqual(told, (False, helper.near(told[1], plain)))
+                if x[1]:
+                    self.assertLess((told[1] - step / 2) ** 2, exact)
+                    self.assertLess(exact, (told[1] + step / 2) ** 2)
+                else:
+                    self.assertEqual(told, (False, 0))
+
+    def test_roots_of_singles_are_a_doubles(self):
+        source = random.Random(12)
+        edges = [0, 1, 2, 3, 0x7FFFFF, 0x800000, 0x3F800000, 0x3F7FFFFF, 0x3F800001, 0x40800000, 0x4A000000]
+        for stored in edges + [source.randrange(0x7F800000) for i in range(1000)]:
+            expected = helper.single(math.sqrt(helper.value_of(stored)))
+            told = kinds.root(kinds.SINGLE, kinds.of_single(stored))
+            self.assertEqual(kinds.stored_bits(kinds.SINGLE, told), expected, stored)
+
+    def test_whole_roots(self):
+        source = random.Random(13)
+        for value in list(range(70)) + [k * k + beside for k in (2 ** 26, 2 ** 66 - 1) for beside in (-1, 0, 1)]:
+            self.assertEqual(kinds.whole_root(value), math.isqrt(value))
+        for i in range(200):
+            value = source.randrange(2 ** source.randrange(1, 140))
+            self.assertEqual(kinds.whole_root(value), math.isqrt(value))
+
+    def test_below_is_by_worth(self):
+        source = random.Random(14)
+        for i in range(400):
+            x, y = [some_number(source, kinds.SINGLE, (-30, 5)) for k in range(2)]
+            self.assertEqual(kinds.is_below(x, y), model(x)[1] < model(y)[1])
+        for x, y in (((0, 0, 0), (1, 0, -9)), ((1, 0, 5), (0, 0, 0)), ((0, 2, 3), (0, 4, 2)), ((1, 2, 3), (1, 16, 0))):
+            self.assertFalse(kinds.is_below(x, y))
+            self.assertFalse(kinds.is_below(y, x))
+
+    def test_without_its_sign(self):
+        self.assertEqual([kinds.without_sign(x) for x in ((1, 5, -2), (0, 5, -2), (1, 0, 0))],
+                         [(0, 5, -2), (0, 5, -2), (0, 0, 0)])
+
     def test_whole_numbers(self):
         for x, nearest, below in (((0, 5, -1), 2, 2), ((1, 5, -1), -2, -3), ((0, 7, -1), 4, 3), ((1, 7, -2), -2, -2),
                                   ((1, 3, 2), -12, -12), ((0, 3, 2), 12, 12), ((1, 0, 0), 0, 0), ((1, 1, -9999), 0, -1)):
@@ -96,9 +141,9 @@ class Circle(unittest.TestCase):
         quarter = helper.Fraction(314159265358979323846264338327950288419716939937510582097494459230781640628, 4 * 10 ** 74)
         for i in range(11):
             for terms, n in ((circle.COSINE_TERMS, 2 * i), (circle.SINE_TERMS, 2 * i + 1)):
-                sign, whole, power = terms[10 - i]
+                whole, power = terms[10 - i]
                 exact = quarter ** n / math.factorial(n)
-                self.assertEqual((sign, helper.Fraction(2) ** power * whole), (i % 2, helper.near(exact, helper.UNIT)))
+                self.assertEqual(helper.Fraction(2) ** power * whole, helper.near(exact, helper.UNIT))
 
     def test_cosine_and_sine_in_each_eighth(self):
         source = random.Random(10)

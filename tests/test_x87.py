@@ -1,4 +1,4 @@
-"""Lines of calls with the answers of a C program that did the sums with a processor's x87 unit."""
+"""Lines of calls with the answers of a C program that did the sums with a processor's x87 unit and its singles."""
 
 import pathlib
 import unittest
@@ -15,7 +15,7 @@ class X87(unittest.TestCase):
             handed = [int(one) for one in calls.split()[1:]]
             self.assertEqual(answers(handed), [int(one) for one in told.split()[1:]], calls)
             checked += 1
-        self.assertEqual(checked, 60)
+        self.assertEqual(checked, 150)
 
 
 if __name__ == "__main__":

@@ -1,4 +1,4 @@
-"""Numbers of the unit, doubles and singles, each sum, product and quotient rounded by itself.
+"""Numbers of the unit, doubles and singles, each sum, product, quotient and root rounded by itself.
 
 A number is a tuple (sign, whole, power): whole times 2^power, with the sign - if sign is 1.
 No height comes near a kind's largest number, so there is no infinite one here.
@@ -37,6 +37,10 @@ def rounded(kind, sign, whole, power):
     return (sign, halved(whole, over), power + over)
 
 
+def turned(kind, x):
+    return rounded(kind, x[SIGN], x[WHOLE], x[POWER])
+
+
 def of_whole(value):
     return (1 if value < 0 else 0, abs(value), 0)
 
@@ -55,8 +59,18 @@ def opposite(x):
     return (1 - x[SIGN], x[WHOLE], x[POWER])
 
 
+def without_sign(x):
+    return (0, x[WHOLE], x[POWER])
+
+
 def signed(x):
     return -x[WHOLE] if x[SIGN] else x[WHOLE]
+
+
+def is_below(x, y):
+    """By worth: of +0 and -0 neither is below the other."""
+    power = min(x[POWER], y[POWER])
+    return (signed(x) << (x[POWER] - power)) < (signed(y) << (y[POWER] - power))
 
 
 def add(kind, x, y):
@@ -84,6 +98,26 @@ def divide(kind, x, y):
     return rounded(kind, x[SIGN] ^ y[SIGN], whole, x[POWER] - y[POWER] - more - 1)
 
 
+def whole_root(value):
+    """The greatest whole number whose square isn't above value."""
+    found = 1 << ((value.bit_length() + 1) // 2)
+    while found * found > value:
+        found = (found + value // found) // 2
+    return found
+
+
+def root(kind, x):
+    """The root of x, which is 0 or above it."""
+    more = max(0, 2 * (kind[PLACES] + 2) - x[WHOLE].bit_length())
+    # The power is to be even, for half of it is the root's.
+    more = more + (x[POWER] - more) % 2
+    square = x[WHOLE] << more
+    found = whole_root(square)
+    # As in a quotient, the last place says that something is left.
+    whole = found * 2 + (1 if found * found < square else 0)
+    return rounded(kind, 0, whole, (x[POWER] - more) // 2 - 1)
+
+
 def scaled(kind, x, power):
     """x times 2^power, rounded but once."""
     return rounded(kind, x[SIGN], x[WHOLE], x[POWER] + power)
@@ -105,7 +139,7 @@ def whole_below(x):
 
 def stored_bits(kind, x):
     """x turned into the kind, as the kind is stored."""
-    near = rounded(kind, x[SIGN], x[WHOLE], x[POWER])
+    near = turned(kind, x)
     sign = near[SIGN] << kind[SIGN_PLACE]
     spare = min(kind[PLACES] - near[WHOLE].bit_length(), near[POWER] - kind[LEAST])
     # Rounding up may leave 2^places, where spare is -1; so one place more is made, then taken.

@@ -1,17 +1,18 @@
 """The sea: its mean, its waves, its surge, and how high it is at a minute, in the unit."""
 
 from tidelocks.circle import TURN, cosine
-from tidelocks.kinds import UNIT, add, divide, multiply, of_whole, scaled, subtract
+from tidelocks.kinds import SINGLE, UNIT, add, divide, is_below, multiply, of_whole, scaled, subtract, turned
 
 MOST_HALVINGS = 20000
 
 
 class Wave:
-    """high is a whole number, factor a number; phase and speed are parts of a turn."""
+    """high and factor are numbers, widest their product; phase and speed are parts of a turn."""
 
     def __init__(self, high, factor, phase, speed):
         self.high = high
         self.factor = factor
+        self.widest = multiply(UNIT, high, factor)
         self.phase = phase
         self.speed = speed
 
@@ -32,9 +33,8 @@ class Sea:
         self.surge = None
 
 
-def wave_tenths(wave, minute):
-    widest = multiply(UNIT, of_whole(wave.high), wave.factor)
-    return multiply(UNIT, widest, cosine((wave.phase + wave.speed * minute) % TURN))
+def place(wave, minute):
+    return (wave.phase + wave.speed * minute) % TURN
 
 
 def surge_tenths(surge, minute):
@@ -49,15 +49,41 @@ def tenths(sea, minute):
     """The height, in tenths of a millimetre."""
     total = of_whole(sea.mean)
     for wave in sea.waves:
-        total = add(UNIT, total, wave_tenths(wave, minute))
+        total = add(UNIT, total, multiply(UNIT, wave.widest, cosine(place(wave, minute))))
     if sea.surge is not None and minute >= sea.surge.begins:
         total = add(UNIT, total, surge_tenths(sea.surge, minute))
     return total
 
 
+def as_metres(height):
+    """A height, which is in tenths of a millimetre, as metres."""
+    return divide(UNIT, height, of_whole(10000))
+
+
 def metres(sea, minute):
-    return divide(UNIT, tenths(sea, minute), of_whole(10000))
+    return as_metres(tenths(sea, minute))
+
+
+def sea_level(sea, minute):
+    """The metres as a single, as locks take them."""
+    return turned(SINGLE, metres(sea, minute))
 
 
 def millimetres(sea, minute):
     return divide(UNIT, tenths(sea, minute), of_whole(10))
+
+
+def extremes(sea, minute, n):
+    """The least and the greatest of n heights from the minute on: each one, and when it is first, from 0 on.
+
+    They are told apart as heights, not as metres: two heights may have the same metres.
+    """
+    least = (tenths(sea, minute), 0)
+    greatest = least
+    for k in range(1, n):
+        height = tenths(sea, minute + k)
+        if is_below(height, least[0]):
+            least = (height, k)
+        if is_below(greatest[0], height):
+            greatest = (height, k)
+    return (least, greatest)

@@ -44,17 +44,18 @@ def series(terms, u):
     """
     if u[WHOLE] == 0:
         return (0, terms[-1][0], terms[-1][1])
-    spare = UNIT[PLACES] - u[WHOLE].bit_length()
+    places = UNIT[PLACES]
+    spare = places - u[WHOLE].bit_length()
     factor = u[WHOLE] << spare
     factor_power = u[POWER] - spare
     whole = terms[0][0]
     power = terms[0][1]
     for term in terms[1:]:
         product = whole * factor
-        over = product.bit_length() - UNIT[PLACES]
+        over = product.bit_length() - places
         power = power + factor_power + over
         rest = (term[0] << (term[1] - power)) - halved(product, over)
-        over = rest.bit_length() - UNIT[PLACES]
+        over = rest.bit_length() - places
         whole = halved(rest, over)
         power = power + over
     return (0, whole, power)

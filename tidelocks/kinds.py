@@ -31,7 +31,9 @@ def halved(whole, times):
 
 
 def rounded(kind, sign, whole, power):
-    over = max(whole.bit_length() - kind[PLACES], kind[LEAST] - power)
+    over = whole.bit_length() - kind[PLACES]
+    if over < kind[LEAST] - power:
+        over = kind[LEAST] - power
     if over <= 0:
         return (sign, whole, power)
     return (sign, halved(whole, over), power + over)

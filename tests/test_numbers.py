@@ -154,6 +154,14 @@ class Circle(unittest.TestCase):
                 told = [kinds.stored_bits(kinds.UNIT, work(part)) for work in (circle.cosine, circle.sine)]
                 self.assertEqual(told, [helper.unit_bits(x) for x in helper.cosine_and_sine(part)], part)
 
+    def test_the_tenth_terms_count(self):
+        # They are so small that few places show it: the first two would have another cosine, the others another sine.
+        for y in (0x1E8BF14CCB9391D5, 0x1F78C938A97F9747, 0x1D6A084B702E5640, 0x1FDFBA3D86A84B7B):
+            for k in range(8):
+                part = k * 2 ** 61 + (2 ** 61 - y if k % 2 else y)
+                told = [kinds.stored_bits(kinds.UNIT, work(part)) for work in (circle.cosine, circle.sine)]
+                self.assertEqual(told, [helper.unit_bits(x) for x in helper.cosine_and_sine(part)], part)
+
     def test_quarters(self):
         one, minus = 0x3FFF8000000000000000, 1 << 79
         told = [[kinds.stored_bits(kinds.UNIT, work(k * 2 ** 62)) for k in range(4)]
